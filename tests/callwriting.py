@@ -27,6 +27,26 @@ def form():
     return [5]
 
 
+def felt(heads):
+    return [6, len(heads)] + list(heads)
+
+
+def sure():
+    return [7]
+
+
+def fewest():
+    return [8]
+
+
+def ways(k):
+    return [9, k]
+
+
+def change(k):
+    return [10, k]
+
+
 def joined(calls):
     return [number for call in calls for number in call]
 
